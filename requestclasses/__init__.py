@@ -1,0 +1,1 @@
+"""Who, what and where, and classes of requests."""
