@@ -43,3 +43,8 @@ def five_things(pattern, request, directory):
         are_flags_so(pattern, request),
         is_when_so(pattern, request),
     ]
+
+
+def does_fit(pattern, request, directory):
+    """Whether the pattern fits the request."""
+    return all(five_things(pattern, request, directory))

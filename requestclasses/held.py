@@ -1,20 +1,12 @@
 """What the object of a list of calls holds: a directory and patterns."""
 
+from requestclasses.apart import ToldApart, flags_told_apart
 from requestclasses.directories import directory_from_text
 from requestclasses.refusals import NoSuchPattern, TooManyPatterns, TooMuchToldApart
 
 FIRST_DIRECTORY = "user a\n"
 MOST_PATTERNS = 20
 MOST_FLAGS = 16
-
-
-def flags_told_apart(patterns):
-    """The flags that the patterns wish on or off, each once."""
-    flags = {}
-    for pattern in patterns:
-        for wish in pattern.wishes:
-            flags[wish[0]] = True
-    return list(flags)
 
 
 class Held:
@@ -43,3 +35,7 @@ class Held:
         # Python takes the last ones for negative numbers: those are refused here.
         self.pattern_at(k)
         self.patterns.pop(k)
+
+    def told_apart(self):
+        """What the directory and the patterns tell apart now."""
+        return ToldApart(self.directory, self.patterns)

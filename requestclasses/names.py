@@ -1,9 +1,11 @@
-"""Names and their order, and the paths and times that texts tell."""
+"""Names and their order, the least name beside some, and the paths and times that texts tell."""
 
 from requestclasses.refusals import require_form
 
 LETTERS = "abcdefghijklmnopqrstuvwxyz"
 DIGITS = "0123456789"
+# What may stand behind a name's first letter, in the order of the bytes.
+LATER_SIGNS = "0123456789abcdefghijklmnopqrstuvwxyz"
 LONGEST_NAME = 12
 LATEST_TIME = 1000000
 
@@ -17,7 +19,7 @@ def is_name(text):
     """Whether the text is a name."""
     if not 1 <= len(text) <= LONGEST_NAME:
         return False
-    return text[0] in LETTERS and has_only(text, LETTERS + DIGITS)
+    return text[0] in LETTERS and has_only(text, LATER_SIGNS)
 
 
 def are_names(texts):
@@ -35,9 +37,60 @@ def name_order(name):
     return (len(name), name)
 
 
+def row_order(names):
+    """What paths and rows of flags are ordered by: how many names they have, then the names."""
+    return (len(names), [name_order(name) for name in names])
+
+
 def are_rising(names):
     """Whether each name comes before the one behind it."""
     return all([name_order(one) < name_order(other) for one, other in zip(names, names[1:])])
+
+
+def each_once(names):
+    """The names, each once, as a dict of True."""
+    once = {}
+    for name in names:
+        once[name] = True
+    return once
+
+
+def in_order(names):
+    """The names, each once, in their order."""
+    return sorted(each_once(names), key=name_order)
+
+
+def name_at(number):
+    """The name with the number, from 0, in the order of all names."""
+    later = 0
+    as_long = len(LETTERS)
+    while number >= as_long:
+        number -= as_long
+        as_long *= len(LATER_SIGNS)
+        later += 1
+    tail = ""
+    for k in range(later):
+        tail = LATER_SIGNS[number % len(LATER_SIGNS)] + tail
+        number //= len(LATER_SIGNS)
+    return LETTERS[number] + tail
+
+
+def least_name_beside(names):
+    """The least name that is none of these."""
+    taken = each_once(names)
+    number = 0
+    while name_at(number) in taken:
+        number += 1
+    return name_at(number)
+
+
+def names_from_text(text):
+    """The names of a text in which they stand with one blank between neighbours."""
+    if text == "":
+        return []
+    names = text.split(" ")
+    require_form(are_names(names))
+    return names
 
 
 def path_from_text(text, most):

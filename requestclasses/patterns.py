@@ -1,11 +1,13 @@
 """The calls, as they are written in whole numbers, and their answers."""
 
 from requestclasses.directories import DirectoryFault, directory_from_text
-from requestclasses.fitting import five_things
+from requestclasses.fitting import does_fit, five_things
 from requestclasses.held import Held
+from requestclasses.names import least_name_beside, names_from_text
 from requestclasses.pattern import Pattern
 from requestclasses.refusals import NotInDirectory, Refusal
-from requestclasses.request import request_from_text
+from requestclasses.representatives import counts_of_parts, product, representative_at, representative_of
+from requestclasses.request import request_from_text, request_order, text_of_request
 from requestclasses.texts import answered_text, answered_texts, text_from_bytes
 
 
@@ -63,6 +65,44 @@ def answer_fits(held, numbers, texts):
     return [1 if so else 0 for so in [all(things)] + things]
 
 
+def answer_which(held, numbers, texts):
+    """The numbers of the patterns that fit a request."""
+    request = request_from_text(texts[0])
+    found = [k for k, pattern in enumerate(held.patterns) if does_fit(pattern, request, held.directory)]
+    return [len(found)] + found
+
+
+def answer_represent(held, numbers, texts):
+    """The text of a request's representative."""
+    request = request_from_text(texts[0])
+    return answered_text(text_of_request(representative_of(request, held.told_apart())))
+
+
+def answer_count(held, numbers, texts):
+    """How many representatives, and how many paths, users, actions, rows of flags and times they have."""
+    counts = counts_of_parts(held.told_apart())
+    return [product(counts)] + counts
+
+
+def answer_nth(held, numbers, texts):
+    """The text of the representative with a number."""
+    return answered_text(text_of_request(representative_at(numbers[0], held.told_apart())))
+
+
+def answer_before(held, numbers, texts):
+    """Which of two requests comes before the other, 0 if they are the same."""
+    one = request_order(request_from_text(texts[0]))
+    other = request_order(request_from_text(texts[1]))
+    if one == other:
+        return [0]
+    return [1 if one < other else 2]
+
+
+def answer_fresh(held, numbers, texts):
+    """The least name that is none of some."""
+    return answered_text(least_name_beside(names_from_text(texts[0])))
+
+
 def answer_size(held, numbers, texts):
     """How many users, groups and patterns."""
     return [len(held.directory.users), len(held.directory.groups), len(held.patterns)]
@@ -78,6 +118,12 @@ CALLS = {
     5: (0, 1, answer_members),
     6: (0, 1, answer_groups),
     7: (1, 1, answer_fits),
+    8: (0, 1, answer_which),
+    9: (0, 1, answer_represent),
+    10: (0, 0, answer_count),
+    11: (1, 0, answer_nth),
+    12: (0, 2, answer_before),
+    13: (0, 1, answer_fresh),
     14: (0, 0, answer_size),
 }
 

@@ -22,6 +22,13 @@ class NoSuchPattern(Refusal):
         Refusal.__init__(self, -2)
 
 
+class NoSuchRepresentative(Refusal):
+    """A number is not that of a representative."""
+
+    def __init__(self):
+        Refusal.__init__(self, -2)
+
+
 class NotInDirectory(Refusal):
     """A text is no user's, or no group's, of the directory."""
 
@@ -41,6 +48,13 @@ class TooManyPatterns(Refusal):
 
     def __init__(self):
         Refusal.__init__(self, -6)
+
+
+class TooManyRepresentatives(Refusal):
+    """There are more representatives than are numbered."""
+
+    def __init__(self):
+        Refusal.__init__(self, -7)
 
 
 def require_form(holds):

@@ -1,6 +1,6 @@
-"""Requests and their texts."""
+"""Requests, their texts and their order."""
 
-from requestclasses.names import are_names, are_rising, path_from_text, time_from_text
+from requestclasses.names import are_names, are_rising, name_order, path_from_text, row_order, time_from_text
 from requestclasses.refusals import require_form
 
 LONGEST_PATH = 6
@@ -35,3 +35,27 @@ def request_from_text(text):
     require_form(words[-1].startswith("@"))
     time = time_from_text(words[-1][1:])
     return Request(words[0], words[1], path, flags, time)
+
+
+def text_of_path(path):
+    """The text of a path."""
+    return "/" if len(path) == 0 else "".join(["/" + name for name in path])
+
+
+def text_of_request(request):
+    """The text of a request."""
+    words = [request.user, request.action, text_of_path(request.path)]
+    words.extend(["+" + flag for flag in request.flags])
+    words.append("@" + str(request.time))
+    return " ".join(words)
+
+
+def request_order(request):
+    """What requests are ordered by."""
+    return (
+        row_order(request.path),
+        name_order(request.user),
+        name_order(request.action),
+        row_order(request.flags),
+        request.time,
+    )

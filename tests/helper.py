@@ -11,6 +11,12 @@ NUMBERS = {
     "members": 5,
     "groups": 6,
     "fits": 7,
+    "which": 8,
+    "represent": 9,
+    "count": 10,
+    "nth": 11,
+    "before": 12,
+    "fresh": 13,
     "size": 14,
 }
 
@@ -74,6 +80,13 @@ def texts(*many):
     for one in many:
         answered.extend(text(one))
     return answered
+
+
+def words_of(answered):
+    """The words of an answer that is one text."""
+    if answered[0] != len(answered) - 1:
+        raise AssertionError("%r is no text" % answered)
+    return bytes(answered[1:]).decode("ascii")
 
 
 def lines(*many):

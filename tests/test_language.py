@@ -38,6 +38,10 @@ EXPRESSIONS = (
     ast.Call, ast.Attribute, ast.Subscript, ast.Slice, ast.ListComp, ast.JoinedStr, ast.FormattedValue, ast.Name,
     ast.Lambda)
 WALKED_AT_ONCE = {"zip", "enumerate", "reversed", "range"}
+KEYWORDS = {
+    "sorted": {"key", "reverse"}, "min": {"key", "default"}, "max": {"key", "default"}, "sum": {"start"},
+    "enumerate": {"start"}, "zip": {"strict"}}
+CHANGES = {"append", "clear", "extend", "insert", "pop", "remove", "reverse", "setdefault", "update"}
 WALKERS = {"list", "tuple", "dict", "sorted", "sum", "any", "all", "enumerate", "zip", "min", "max"}
 
 
@@ -264,11 +268,75 @@ class Language(unittest.TestCase):
         for file in FILES:
             tree = tree_of(file)
             in_len = {node.args[0] for node in ast.walk(tree) if isinstance(node, ast.Call) and node.args
-                      and isinstance(node.func, ast.Name) and node.func.id in ("len", "sorted")}
+                      and isinstance(node.func, ast.Name) and node.func.id in ("len", "sorted") and not node.keywords}
             for node in ast.walk(tree):
                 if isinstance(node, ast.Call) and isinstance(node.func, ast.Name):
                     if node.func.id in ("set", "frozenset"):
                         self.assertIn(node, in_len, "%s line %d" % (file.name, node.lineno))
+
+    def test_what_is_walked_is_not_changed(self):
+        """L23: nothing is put to what a loop walks, or taken from it, within the loop."""
+        for loop, where in self.each_node(ast.For):
+            walked = {ast.dump(part) for part in ast.walk(loop.iter) if isinstance(part, (ast.Name, ast.Attribute))}
+            for node in [part for row in loop.body for part in ast.walk(row)]:
+                changed = None
+                if isinstance(node, ast.Call) and isinstance(node.func, ast.Attribute) and node.func.attr in CHANGES:
+                    changed = node.func.value
+                if isinstance(node, ast.Subscript) and isinstance(node.ctx, ast.Store):
+                    changed = node.value
+                if changed is not None:
+                    self.assertNotIn(ast.dump(changed), walked, where)
+
+    def test_nothing_is_kept_at_the_top(self):
+        """L15: a list or dict of a file's top is only read, by an index, a walk, "in" or len."""
+        for file in FILES:
+            tree = tree_of(file)
+            kept = {node.targets[0].id for node in tree.body
+                    if isinstance(node, ast.Assign) and isinstance(node.value, (ast.List, ast.Dict))}
+            read = set()
+            for node in ast.walk(tree):
+                if isinstance(node, ast.Subscript) and isinstance(node.ctx, ast.Load):
+                    read.add(node.value)
+                elif isinstance(node, ast.Compare):
+                    read.update(node.comparators)
+                elif isinstance(node, (ast.For, ast.comprehension)):
+                    read.add(node.iter)
+                elif isinstance(node, ast.Call) and isinstance(node.func, ast.Name) and node.func.id == "len":
+                    read.update(node.args)
+            for node in ast.walk(tree):
+                if isinstance(node, ast.Name) and isinstance(node.ctx, ast.Load) and node.id in kept:
+                    self.assertIn(node, read, "%s line %d" % (file.name, node.lineno))
+
+    def test_two_forms(self):
+        """L13: no set is written out, and no two lambdas stand on one line."""
+        for node, where in self.each_node(ast.Set):
+            self.fail(where)
+        places = [where for node, where in self.each_node(ast.Lambda)]
+        self.assertEqual(len(places), len(set(places)))
+
+    def test_errors(self):
+        """L19: the program's own errors are taken, by name, and each is made where it is raised."""
+        own = {node.name for node, where in self.each_node(ast.ClassDef) if node.bases}
+        for node, where in self.each_node(ast.ClassDef):
+            for base in node.bases:
+                self.assertIn(base.id, own | {"Exception", "ValueError"}, where)
+        for node, where in self.each_node(ast.ExceptHandler):
+            self.assertIn(node.type.id, own, where)
+        for node, where in self.each_node(ast.Raise):
+            self.assertIsInstance(node.exc, ast.Call, where)
+            self.assertIn(node.exc.func.id, own, where)
+
+    def test_python_s_own_as_they_are_called(self):
+        """L22: called, never kept, and with the listed keywords alone."""
+        called = set()
+        for node, where in self.each_node(ast.Call):
+            name = node.func.id if isinstance(node.func, ast.Name) else ""
+            if name in OWN_NAMES or isinstance(node.func, ast.Attribute):
+                self.assertLessEqual({keyword.arg for keyword in node.keywords}, KEYWORDS.get(name, set()), where)
+            called.add((name, where, getattr(node.func, "col_offset", 0)))
+        for node, where in self.each_node(ast.Name):
+            if node.id in OWN_NAMES - {"Exception", "ValueError"}:
+                self.assertIn((node.id, where, node.col_offset), called, where)
 
 
 if __name__ == "__main__":

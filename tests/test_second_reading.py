@@ -5,11 +5,12 @@ which a few bytes are changed, so that most are a pattern's, a request's or a di
 or almost one.
 """
 
+import itertools
 import random
 import re
 import unittest
 
-from tests.helper import ask, text, texts
+from tests.helper import ask, last, text, texts, words_of
 
 NAME = "[a-z][a-z0-9]{0,11}"
 TIME = "(?:0|[1-9][0-9]{0,5}|1000000)"
@@ -107,6 +108,61 @@ def expected_directory(words):
     if not users:
         return [len(rows) + 1, 8], None
     return [0, len(users), len(groups)], {user: [group for group in groups if group in above[user]] for user in users}
+
+
+def by_length(name):
+    return (len(name), name)
+
+
+def by_place(names):
+    return (len(names), [by_length(name) for name in names])
+
+
+def least_beside(names):
+    """The least name that is none of these, out of all names of one sign and of two."""
+    letters = "abcdefghijklmnopqrstuvwxyz"
+    every = list(letters) + [one + other for one in letters for other in "0123456789" + letters]
+    return min(set(every) - set(names), key=by_length)
+
+
+class Apart:
+    """What is told apart by the parts of patterns, and all representatives, written out and sorted."""
+
+    def __init__(self, users, patterns):
+        self.users = set(users) | {pattern[1] for pattern in patterns if pattern[0] == "user"}
+        self.actions = {action for pattern in patterns for action in pattern[2] or []}
+        paths = [tuple(pattern[3].split("/")[1:-1]) for pattern in patterns]
+        self.nodes = {()} | {path[:end] for path in paths for end in range(len(path) + 1)}
+        self.flags = {wish[1:] for pattern in patterns for wish in pattern[5]}
+        self.times = {0} | {int(time) for pattern in patterns for time in pattern[6:] if time is not None}
+
+    def beside(self, node):
+        return node + (least_beside([other[-1] for other in self.nodes if other and other[:-1] == node]),)
+
+    def parts(self):
+        rows = [row for size in range(len(self.flags) + 1)
+                for row in itertools.combinations(sorted(self.flags, key=by_length), size)]
+        return (self.nodes | {self.beside(node) for node in self.nodes}, self.users | {least_beside(self.users)},
+                self.actions | {least_beside(self.actions)}, rows, self.times)
+
+    def every(self):
+        """All representatives as texts, in the order of requests."""
+        every = sorted(itertools.product(*self.parts()), key=lambda parts: (
+            by_place(parts[0]), by_length(parts[1]), by_length(parts[2]), by_place(parts[3]), parts[4]))
+        return [self.told(*parts) for parts in every]
+
+    def told(self, path, user, action, flags, time):
+        return " ".join([user, action, "/" + "/".join(path)] + ["+" + flag for flag in flags] + ["@%d" % time])
+
+    def representative(self, request):
+        """The text of the representative of the parts of a request."""
+        user, action, place, flags, time = request
+        path = tuple(place.split("/")[1:-1])
+        if path not in self.nodes:
+            path = self.beside(max([node for node in self.nodes if path[:len(node)] == node], key=len))
+        return self.told(path, user if user in self.users else least_beside(self.users),
+                         action if action in self.actions else least_beside(self.actions),
+                         [flag for flag in flags if flag in self.flags], max(t for t in self.times if t <= time))
 
 
 class Maker:
@@ -214,6 +270,57 @@ class SecondReading(unittest.TestCase):
             self.assertEqual(answered[1], text("user a\n" if groups_of is None else words))
             self.check_both_ways(answered[2:], calls, groups_of or {})
         self.assertEqual(sorted(seen), list(range(9)))
+
+    def test_classes(self):
+        maker = Maker(3)
+        directory = "user a\nuser b\nuser ab\ngroup g: a h\ngroup h: b\n"
+        several = 0
+        for k in range(150):
+            told = [maker.pattern() for number in range(maker.chance.randint(0, 5))]
+            told = [words for words in told if read_pattern(words) is not None]
+            calls = [("directory", directory)] + [("pattern", words) for words in told]
+            apart = Apart(["a", "b", "ab"], [read_pattern(words) for words in told])
+            parts = [len(part) for part in apart.parts()]
+            count = last(*calls, ("count",))
+            self.assertEqual(count[1:], parts, told)
+            if count[0] <= 4000:
+                several += len(told) > 1
+                self.check_every(calls, apart.every(), maker)
+            self.check_represent(calls, apart, maker)
+        self.assertGreater(several, 30)
+
+    def check_every(self, calls, every, maker):
+        """Some of the representatives by their numbers, the first and the last among them."""
+        numbers = [0, len(every) - 1] + [maker.chance.randrange(len(every)) for k in range(150)]
+        answered = ask(*calls, ("count",), *[("nth", k) for k in numbers], ("nth", len(every)))[len(calls):]
+        self.assertEqual(answered[0][0], len(every))
+        self.assertEqual([words_of(answer) for answer in answered[1:-1]], [every[k] for k in numbers])
+        self.assertEqual(answered[-1], [-2])
+
+    def check_represent(self, calls, apart, maker):
+        """Of some requests the representative, that the patterns fit both, and that it isn't behind."""
+        for k in range(20):
+            asked = maker.changed(maker.request())
+            request = read_request(asked)
+            answered = ask(*calls, ("represent", asked), ("which", asked))[len(calls):]
+            if request is None:
+                self.assertEqual(answered, [[-1], [-1]], asked)
+                continue
+            expected = apart.representative(request)
+            self.assertEqual(words_of(answered[0]), expected, asked)
+            further = ask(*calls, ("which", expected), ("represent", expected), ("before", expected, asked))
+            self.assertEqual(further[len(calls):],
+                             [answered[1], answered[0], [0] if expected == asked else [1]], asked)
+
+    def test_names_that_are_fresh(self):
+        maker = Maker(4)
+        pool = list("abcdefghijklmnopqrstuvwxyz") + ["a%d" % k for k in range(10)] + ["aa", "ab", "b0", "zz"]
+        for k in range(500):
+            names = [name for name in pool if maker.chance.random() < 0.97] + [maker.name()]
+            maker.chance.shuffle(names)
+            words = maker.changed(" ".join(names))
+            good = words == "" or re.fullmatch(NAME + "(?: " + NAME + ")*", words)
+            self.assertEqual(last(("fresh", words)), text(least_beside(words.split(" "))) if good else [-1], words)
 
     def check_both_ways(self, answered, calls, groups_of):
         for call, answer in zip(calls, answered):
